@@ -1,0 +1,1 @@
+"""Ringbars: all shapes of a ring of bars at once."""
