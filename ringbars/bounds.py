@@ -1,6 +1,6 @@
 """Bounds of diagonals, and what they leave of each one [6]."""
 
-from ringbars.checks import is_list, is_within
+from ringbars.checks import is_list, is_within, twice_at
 from ringbars.cuttings import want_cutting, want_diagonal
 from ringbars.errors import BadNumber, Twice
 from ringbars.leads import is_clash, led, left_at_first
@@ -63,11 +63,9 @@ def want_bounds(cutting, bounds):
         raise BadNumber("bounds")
     for row in bounds:
         want_diagonal(cutting, row[0])
-    seen = {}
-    for row in bounds:
-        if tuple(row[0]) in seen:
-            raise Twice(row[0])
-        seen[tuple(row[0])] = True
+    at = twice_at([row[0] for row in bounds])
+    if at is not None:
+        raise Twice(bounds[at][0])
 
 
 def is_bound(value):

@@ -6,6 +6,7 @@ from math import factorial
 from ringbars.checks import is_list, is_lot
 from ringbars.errors import BadCell, TooMany
 from ringbars.lots import long_three, want_clear
+from ringbars.papers import fixed
 from ringbars.params import want_lot, want_number
 
 MOST_LISTED = 6
@@ -28,8 +29,7 @@ def cells(ring, dimension):
 def many_cells(ring):
     """How many cells there are of each dimension."""
     want_clear(ring)
-    sizes = [len(lots) for lots in partings(ring)]
-    return tuple([sizes.count(size) * factorial(size - 1) for size in range(3, len(ring) + 1)])
+    return cell_counts(ring)
 
 
 def cells_with(ring, lot):
@@ -55,8 +55,12 @@ def mirrored_cell(ring, cell):
     """The cell with its lots in the other order round."""
     want_clear(ring)
     want_cell(ring, cell)
-    lots = [tuple(lot) for lot in cell]
-    return tuple(lots[:1] + lots[:0:-1])
+    return mirror_of(fixed(cell))
+
+
+def mirror_of(cell):
+    """The mirrored one of a right cell."""
+    return cell[:1] + cell[:0:-1]
 
 
 def makes_cell(ring, value):
@@ -108,6 +112,12 @@ def cells_of(ring, dimension):
         if len(lots) == dimension + 3:
             found = found + [lots[:1] + rest for rest in permutations(list(lots[1:]))]
     return tuple(sorted(found))
+
+
+def cell_counts(ring):
+    """How many cells of each dimension a ring has that closes and is clear."""
+    sizes = [len(lots) for lots in partings(ring)]
+    return tuple([sizes.count(size) * factorial(size - 1) for size in range(3, len(ring) + 1)])
 
 
 def has_all(lot, bars):

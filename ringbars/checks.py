@@ -62,11 +62,17 @@ def is_exactly(value, right):
 
 def first_twice(values):
     """The first of the values that equals one ahead of it, None without one."""
+    at = twice_at(values)
+    return None if at is None else fixed(values[at])
+
+
+def twice_at(values):
+    """The index of the first value that equals one ahead of it, None without one."""
     seen = {}
-    for value in values:
+    for at, value in enumerate(values):
         key = fixed(value)
         if key in seen:
-            return key
+            return at
         seen[key] = True
     return None
 

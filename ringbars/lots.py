@@ -53,18 +53,14 @@ def too_long(ring):
 def long_three(ring):
     """The lot of the three bars that are two by two long, None without any."""
     want_ring(ring, "ring")
-    for lot in lots_of(len(ring)):
-        if len(lot) == 3 and all([ring.sort_of(two) == "long" for two in lots_less(lot)]):
-            return lot
-    return None
+    return three_of(ring)
 
 
 def short_counts(ring, bar):
     """How many short lots of 0, of 1, .. of all bars have this bar."""
     want_ring(ring, "ring")
     want_bar(bar, len(ring))
-    sizes = [len(lot) for lot in lots_by_sort(ring, "short") if bar in lot]
-    return tuple([sizes.count(size) for size in range(len(ring) + 1)])
+    return shorts_with(ring, bar)
 
 
 def in_order(lots):
@@ -75,6 +71,20 @@ def in_order(lots):
 def lots_by_sort(ring, sort):
     """All lots of a ring of one sort."""
     return tuple([lot for lot in lots_of(len(ring)) if ring.sort_of(lot) == sort])
+
+
+def three_of(ring):
+    """The three bars of a right ring that are two by two long, None without any."""
+    for lot in lots_of(len(ring)):
+        if len(lot) == 3 and all([ring.sort_of(two) == "long" for two in lots_less(lot)]):
+            return lot
+    return None
+
+
+def shorts_with(ring, bar):
+    """How many short lots of 0, of 1, .. of all bars of a right ring have this bar."""
+    sizes = [len(lot) for lot in lots_by_sort(ring, "short") if bar in lot]
+    return tuple([sizes.count(size) for size in range(len(ring) + 1)])
 
 
 def lots_less(lot):
@@ -92,5 +102,10 @@ def want_closed(ring):
 def want_clear(ring):
     """Raise the errors of a ring that closes, then Level for one that is not clear."""
     want_closed(ring)
+    want_no_level(ring)
+
+
+def want_no_level(ring):
+    """Raise Level for a ring that is not clear."""
     if not ring.is_clear:
         raise Level(level_lots(ring)[0])

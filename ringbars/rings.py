@@ -2,6 +2,7 @@
 
 from ringbars.checks import is_list, is_numbers, is_within
 from ringbars.errors import BadNumber, BadRing, BadText, TooMany
+from ringbars.gaps import sort_by
 from ringbars.params import want_bar, want_lot, want_number
 from ringbars.texts import items_of, number_at
 
@@ -41,10 +42,7 @@ class Ring:
 
     def sort_of(self, lot):
         """The sort of a lot: short, long or level."""
-        twice = 2 * self.length_of(lot)
-        if twice == self.total:
-            return "level"
-        return "short" if twice < self.total else "long"
+        return sort_by(2 * self.length_of(lot) - self.total)
 
     def with_length(self, bar, length):
         """The ring in which this bar has another length."""

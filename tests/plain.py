@@ -173,3 +173,93 @@ def steps_from(lengths, first):
                 steps[near] = steps[one] + 1
                 queue.append(near)
     return steps
+
+
+def put_together(cell, at):
+    """The lots with one of them and the next one put together, bar 0 ahead."""
+    behind = (at + 1) % len(cell)
+    rest = [lot for number, lot in enumerate(cell) if number not in (at, behind)]
+    both = tuple(sorted(cell[at] + cell[behind]))
+    return (both, *rest) if behind == 0 else (*rest[:at], both, *rest[at:])
+
+
+def rim(lengths, cell):
+    """The rim of a cell, ascending."""
+    found = {put_together(cell, at) for at in range(len(cell))
+             if sort_of(lengths, cell[at] + cell[(at + 1) % len(cell)]) == "short"}
+    return sorted(found)
+
+
+def by_dimension(lengths):
+    """All cells, a list for each dimension."""
+    return [all_cells(lengths, size) for size in range(3, len(lengths) + 1)]
+
+
+def odd_ones(heaps):
+    """The cells that are in an odd number of heaps."""
+    found = set()
+    for heap in heaps:
+        found ^= set(heap)
+    return found
+
+
+def rank(rows):
+    """How many of the rows, sets added by two, are free: by plain elimination."""
+    kept = []
+    for row in map(set, rows):
+        for first, other in kept:
+            if first in row:
+                row = row ^ other
+        if row:
+            kept.append((min(row), row))
+    return len(kept)
+
+
+def holes(many, ranks):
+    """The holes by the numbers of the cells and the ranks."""
+    both = [0, *ranks, 0]
+    return tuple(many[at] - both[at] - both[at + 1] for at in range(len(many)))
+
+
+def partitions(bars):
+    """All ways to part some bars into lots, each lot ascending."""
+    if not bars:
+        return [[]]
+    first, rest = bars[0], bars[1:]
+    found = []
+    for lot in subsets(len(rest)):
+        inside = (first,) + tuple(rest[at] for at in lot)
+        left = [bar for bar in rest if bar not in inside]
+        found += [[inside] + way for way in partitions(left)]
+    return found
+
+
+def nets(lengths, strands):
+    """The nets of strands."""
+    return [abs(sum(lengths[bar] * sign for bar, sign in strand)) for strand in strands]
+
+
+def greatest_net(lengths, strands):
+    """The index of the net that is greater than all others together, or None."""
+    told = nets(lengths, strands)
+    for at, net in enumerate(told):
+        if net > sum(told) - net:
+            return at
+    return None
+
+
+def all_choices(lots):
+    """The strands of lots with all choices of signs, in order."""
+    lots = sorted(lots)
+    free = sorted(bar for lot in lots for bar in lot[1:])
+    found = []
+    for signs in product((1, -1), repeat=len(free)):
+        told = dict(zip(free, signs))
+        found.append(tuple(tuple((bar, told.get(bar, 1)) for bar in lot) for lot in lots))
+    return found
+
+
+def lineups(lengths, size):
+    """All line-ups of so many strands that some shape has."""
+    return [strands for lots in partitions(list(range(len(lengths)))) if len(lots) == size
+            for strands in all_choices(lots) if greatest_net(lengths, strands) is None]

@@ -18,7 +18,7 @@ BUILTINS = set("""len range enumerate zip min max sum abs sorted reversed int st
 METHODS = set("""append clear copy count endswith extend find get index insert isalnum isalpha isdigit
     islower isspace isupper items join keys ljust lower lstrip partition pop remove replace reverse rfind
     rjust rpartition rsplit rstrip setdefault split splitlines startswith strip update upper values zfill
-    isascii""".split())
+    isascii bit_length""".split())
 DUNDERS = {"__init__", "__eq__", "__repr__", "__str__", "__len__", "__bool__", "__call__", "__contains__"}
 BARRED = set("""register mro elements open input law version_info with_traceback add_note type typing enum
     Enum Flag Generic Protocol ABC eval exec compile getattr setattr delattr hasattr globals locals vars dir
@@ -66,6 +66,7 @@ class LanguageTest(unittest.TestCase):
             self.assertRegex(path.name, r"^[a-z_][a-z0-9_]*\.py$")
             text = path.read_bytes().decode("ascii")
             self.assertFalse(re.search(r"[^\n -~]", text), path.name)
+            self.assertNotIn("_wall", text, path.name)
             lines = text.split("\n")
             self.assertLessEqual(len(lines), 399, path.name)
             self.assertLessEqual(max(len(line) for line in lines), 120, path.name)

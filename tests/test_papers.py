@@ -3,11 +3,18 @@
 import unittest
 
 from ringbars.bounds import Clash, Ranges
+from ringbars.fields import InField, TooWide
+from ringbars.flips import Flips
+from ringbars.growing import Change
+from ringbars.lines import Most, Nets, NoSigns, Signs, TooGreat
 from ringbars.papers import Denial, Paper, fixed, is_called
 from ringbars.paths import Apart, Kept, Path
 from ringbars.pieces import OnePiece, TwoPieces
+from ringbars.ranks import Pierced, RimOf, Screen
 from ringbars.rounds import Exchanges, Held
 from ringbars.shapes import Flat, NeverFlat
+from ringbars.sizes import Packed
+from ringbars.slack import Ease, Passings, Slack
 from tests.common import HUGE, ODD, Case, stranger
 
 # Each class, its word, the names of its parts, and whether it is a denial.
@@ -16,7 +23,16 @@ CLASSES = ((Ranges, "ranges", ("ranges",), False), (Clash, "clash", ("rows",), T
            (Path, "path", ("shapes",), False), (Apart, "apart", ("triangle", "bars"), True),
            (Kept, "kept", ("triangle", "ranges"), True), (OnePiece, "onepiece", ("shapes",), False),
            (TwoPieces, "twopieces", ("triangle", "bars"), True),
-           (Exchanges, "exchanges", ("rounds",), False), (Held, "held", ("bars",), True))
+           (Exchanges, "exchanges", ("rounds",), False), (Held, "held", ("bars",), True),
+           (RimOf, "rimof", ("cells",), False), (Screen, "screen", ("cells",), True),
+           (Pierced, "pierced", ("heaps", "screens"), False), (Nets, "nets", ("nets",), False),
+           (TooGreat, "toogreat", ("lot", "net", "others"), True), (Signs, "signs", ("lineup",), False),
+           (NoSigns, "nosigns", ("lots",), True), (Most, "most", ("lineup",), False),
+           (Change, "change", ("ahead", "behind"), False),
+           (Slack, "slack", ("down", "up", "low_lot", "high_lot"), False), (Ease, "ease", ("by", "lot"), False),
+           (Passings, "passings", ("rows",), False), (InField, "infield", ("spare",), False),
+           (TooWide, "toowide", ("triangle", "side"), True), (Packed, "packed", ("bodies",), False),
+           (Flips, "flips", ("rows",), False))
 
 
 class PapersTest(Case):
