@@ -74,6 +74,5 @@ def want_led(ring, cutting, spans, other):
     want_cutting(cutting, "cutting")
     want_row(cutting, spans)
     want_cutting(other, "other")
-    want_as_many(len(ring), cutting.many)
     want_as_many(len(ring), other.many)
     want_whole(ring, cutting, spans)

@@ -128,11 +128,11 @@ def ties_in_all(ring):
 
 def ties_with(ring, number):
     """The ties with a number that some have, ascending."""
-    return tuple(sorted(pairs_with(bars_of_ends(ring), many_within(ring), 0, ring.total, number)))
+    return tuple(pairs_with(bars_of_ends(ring), many_within(ring), 0, ring.total, number))
 
 
 def pairs_with(bars, many, first, behind, number):
-    """The pairs with a number among all of the ends from one to ahead of another one."""
+    """The pairs with a number among all of the ends from one to ahead of another one, ascending."""
     if first == behind:
         return []
     last = first + 1

@@ -107,6 +107,11 @@ class TiesTest(Case):
             self.raises(BadTies("ties"), spans_of, twos, fan, bad)
         self.like(spans_of(twos, fan, as_lists(right)), (2, 4))
 
+    def test_one_pair_the_wrong_way_round(self):
+        for bad in ([(1, 0), (2, 3)], [(0, 1), (3, 2)], [(3, 0), (1, 2)], [(0, 3), (2, 1)], [(1, 2), (3, 0)],
+                    [(1, 2), (0, 3)], [(2, 3), (0, 1)]):
+            self.raises(BadTies("ties"), spans_of, self.square, self.across, bad)
+
     def test_all_pairings_of_few_ends(self):
         for lengths in ([1, 1, 1, 1], [2, 1, 2, 1], [2, 2, 2], [3, 1, 1, 1]):
             ring, cutting = Ring(lengths), Cutting.fan(len(lengths), 0)
