@@ -1,6 +1,6 @@
 """Arcs of a ring, and how far their ends can be apart [5]."""
 
-from ringbars.checks import is_list, is_within
+from ringbars.checks import are_positive
 from ringbars.errors import BadNumber
 from ringbars.lots import want_closed
 from ringbars.params import want_number, want_two_corners
@@ -18,9 +18,7 @@ def arc_bars(many, one, other):
 
 def arm_range(lengths):
     """The least and the greatest span of the ends of an arm."""
-    if not is_list(lengths) or not 1 <= len(lengths) <= MOST_ARM:
-        raise BadNumber("lengths")
-    if not all([is_within(length, 1, None) for length in lengths]):
+    if not are_positive(lengths) or not 1 <= len(lengths) <= MOST_ARM:
         raise BadNumber("lengths")
     total = sum(lengths)
     return max(0, 2 * max(lengths) - total), total

@@ -38,6 +38,11 @@ def is_numbers(value):
     return is_list(value) and all([is_integer(one) for one in value])
 
 
+def are_positive(value):
+    """Whether it is a list or tuple of integers from 1 on, perhaps none."""
+    return is_list(value) and all([is_within(one, 1, None) for one in value])
+
+
 def is_lot(value):
     """Whether it is a list or tuple of ascending integers from 0 on."""
     if not is_numbers(value):

@@ -48,14 +48,14 @@ def in_field(ring, cutting, place):
     spare = slacks(ring, cutting, scale, numbers)
     for at, triangle in enumerate(cutting.triangles):
         if spare[at] < 0:
-            return TooWide(triangle, wide_side(side_spans(ring, cutting, scale, numbers), triangle))
+            return TooWide(triangle, wide_sides(side_spans(ring, cutting, scale, numbers), triangle)[0])
     return InField(from_scale(spare, scale))
 
 
-def wide_side(by_side, triangle):
-    """The least side of a triangle that is greater than the two others together."""
+def wide_sides(by_side, triangle):
+    """The sides of a triangle that are greater than the two others together, ascending."""
     total = sum([by_side[side] for side in sides_of(triangle)])
-    return [side for side in sides_of(triangle) if 2 * by_side[side] > total][0]
+    return [side for side in sides_of(triangle) if 2 * by_side[side] > total]
 
 
 def tips_of(ring, cutting):

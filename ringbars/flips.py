@@ -7,6 +7,7 @@ from ringbars.papers import Paper
 from ringbars.params import want_as_many
 from ringbars.quotients import at_scale, from_scale, scale_of
 from ringbars.rings import want_ring
+from ringbars.shapes import want_cut
 from ringbars.spans import are_let, side_spans
 from ringbars.whole import want_row, want_whole
 
@@ -70,9 +71,15 @@ def flip_at(ring, cutting, scale, spans, diagonal):
 
 def want_led(ring, cutting, spans, other):
     """Raise the errors of whole spans by a cutting, and of another cutting."""
+    want_two_cut(ring, cutting, spans, other)
+    want_whole(ring, cutting, spans)
+
+
+def want_two_cut(ring, cutting, spans, other):
+    """Raise the errors of a ring that closes, integers by a cutting, and another cutting."""
     want_ring(ring, "ring")
     want_cutting(cutting, "cutting")
     want_row(cutting, spans)
     want_cutting(other, "other")
     want_as_many(len(ring), other.many)
-    want_whole(ring, cutting, spans)
+    want_cut(ring, cutting)

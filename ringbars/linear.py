@@ -25,17 +25,19 @@ def solved(rows):
 
 
 def determinant(rows):
-    """The determinant of as many rows as they have numbers, without its sign."""
+    """The determinant of as many rows as they have numbers."""
     now = [list(row) for row in rows]
-    by = 1
+    by, sign = 1, 1
     for at in range(len(now)):
         places = [place for place in range(at, len(now)) if now[place][at] != 0]
         if places == []:
             return 0
+        if places[0] != at:
+            sign = -sign
         now[at], now[places[0]] = now[places[0]], now[at]
         now = now[:at + 1] + [cleared_at(row, now[at], at, by) for row in now[at + 1:]]
         by = now[at][at]
-    return abs(by)
+    return sign * by
 
 
 def cleared_at(row, head, at, by):

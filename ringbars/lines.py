@@ -2,12 +2,11 @@
 
 from ringbars.alongs import strands_shown
 from ringbars.cells import MOST_LISTED, want_few
-from ringbars.checks import is_list, is_numbers
-from ringbars.errors import BadLineUp, BadLot, Twice
+from ringbars.errors import BadLineUp, Twice
 from ringbars.lineups import LineUp, with_alone
 from ringbars.lots import lots_of, want_closed
 from ringbars.papers import Denial, Paper
-from ringbars.params import want_as_many, want_bar, want_lot, want_number
+from ringbars.params import want_as_many, want_bar, want_lot, want_lots, want_number
 from ringbars.paths import want_fit
 from ringbars.rings import want_ring
 from ringbars.shapes import want_shape
@@ -197,9 +196,7 @@ def want_lined(ring, lineup):
 def want_parted(ring, lots):
     """The lots, ascending; raise an error for a ring, and what does not part its bars."""
     want_ring(ring, "ring")
-    if not is_list(lots) or not all([is_numbers(lot) for lot in lots]):
-        raise BadLot("lots")
-    told = sorted([want_lot(lot, len(ring), "lots") for lot in lots])
+    told = sorted(want_lots(lots, len(ring), "lots"))
     bars = sorted([bar for lot in told for bar in lot])
     if () in told or bars != list(range(len(ring))):
         raise BadLineUp("lots")

@@ -1,6 +1,6 @@
 """The errors of parameters that are numbers, bars, corners and lots [2]."""
 
-from ringbars.checks import first_twice, is_numbers, is_within
+from ringbars.checks import first_twice, is_list, is_numbers, is_within
 from ringbars.errors import BadLot, BadNumber, Misfit, NoBar, NoCorner, Twice
 
 
@@ -40,6 +40,13 @@ def want_lot(value, many, part):
     if twice is not None:
         raise Twice(twice)
     return tuple(sorted(value))
+
+
+def want_lots(value, many, part):
+    """The lots, each one ascending, as they are told; raise an error for what is no list of them."""
+    if not is_list(value) or not all([is_numbers(lot) for lot in value]):
+        raise BadLot(part)
+    return [want_lot(lot, many, part) for lot in value]
 
 
 def want_as_many(one, other):

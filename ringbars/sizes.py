@@ -104,9 +104,16 @@ def body_size(body):
     """The size of a body, a fraction."""
     scale = scale_of([fraction for tip in body for fraction in tip])
     rows = [at_scale(tip, scale) for tip in body]
-    apart = [[row[at] - rows[0][at] for at in range(len(row))] for row in rows[1:]]
-    many = len(apart)
-    return lowest(determinant(apart), power(scale, many) * factorial(many))
+    many = len(rows) - 1
+    return lowest(abs(turn_of(rows)), power(scale, many) * factorial(many))
+
+
+def turn_of(rows):
+    """The determinant of rows, each less the first one of them.
+
+    Its sign tells on which side of all rows but one this one lies.
+    """
+    return determinant([[row[at] - rows[0][at] for at in range(len(row))] for row in rows[1:]])
 
 
 def want_packed(ring, cutting):

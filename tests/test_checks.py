@@ -3,8 +3,8 @@
 import unittest
 from math import gcd
 
-from ringbars.checks import first_twice, is_exactly, is_integer, is_lot, is_name, is_numbers
-from ringbars.checks import is_within, lowest
+from ringbars.checks import are_positive, first_twice, is_exactly, is_integer, is_lot, is_name
+from ringbars.checks import is_numbers, is_within, lowest
 from tests.common import HUGE, NO_INTEGERS, ODD, Case
 
 
@@ -53,6 +53,12 @@ class ChecksTest(Case):
         for value in (None, "01", [-1], [0, 0], (1, 0), [0, 2, 1], [True], [0, True], [[0]], {},
                       [None], 3):
             self.assertIs(is_lot(value), False)
+
+    def test_positive(self):
+        for value in ([], (), [1], (3, 2, 2), [HUGE, 1]):
+            self.assertIs(are_positive(value), True)
+        for value in (None, 1, "12", [0], [1, -1], [True], [1, None], {1: 1}, [[1]]):
+            self.assertIs(are_positive(value), False)
 
     def test_first_twice(self):
         self.like(first_twice([]), None)

@@ -24,7 +24,7 @@ BARRED = set("""register mro elements open input law version_info with_traceback
     Enum Flag Generic Protocol ABC eval exec compile getattr setattr delattr hasattr globals locals vars dir
     id gc os sys exit quit help license copyright credits breakpoint importlib""".split())
 NO_NODES = (ast.AsyncFunctionDef, ast.AsyncFor, ast.AsyncWith, ast.Await, ast.Global, ast.Nonlocal, ast.Yield,
-            ast.YieldFrom, ast.Import, ast.GeneratorExp, ast.Set, ast.SetComp, ast.NamedExpr, ast.Div, ast.Try,
+            ast.YieldFrom, ast.Import, ast.GeneratorExp, ast.Set, ast.SetComp, ast.NamedExpr, ast.Div,
             ast.With, ast.Match, ast.AnnAssign, ast.Delete, ast.Assert)
 
 
@@ -36,6 +36,7 @@ def functions(tree):
 def bound(function):
     """The names of the parameters and local variables of a function."""
     names = {one.arg for one in ast.walk(function) if isinstance(one, ast.arg)}
+    names |= {one.name for one in ast.walk(function) if isinstance(one, ast.ExceptHandler) and one.name}
     return names | {one.id for one in ast.walk(function)
                     if isinstance(one, ast.Name) and isinstance(one.ctx, ast.Store)}
 
@@ -52,10 +53,13 @@ def imported(tree):
             for one in node.names]
 
 
-def is_plain(node):
-    """Whether it is a literal that may stand at module level."""
+def is_plain(node, ahead=()):
+    """Whether it is a literal that may stand at module level, or a table of functions defined ahead."""
     if isinstance(node, ast.Tuple):
         return all(is_plain(one) for one in node.elts)
+    if isinstance(node, ast.Dict):
+        values = [one for one in node.values if not (isinstance(one, ast.Name) and one.id in ahead)]
+        return all(is_plain(one) and not isinstance(one, ast.Dict) for one in node.keys + values)
     return isinstance(node, ast.Constant) and not isinstance(node.value, float)
 
 
@@ -78,7 +82,8 @@ class LanguageTest(unittest.TestCase):
                 kinds = (ast.ImportFrom, ast.FunctionDef, ast.ClassDef, ast.Assign)
                 self.assertIsInstance(node, kinds, stem)
                 if isinstance(node, ast.Assign):
-                    self.assertTrue(is_plain(node.value), stem)
+                    ahead = {one.name for one in functions(tree) if one.lineno < node.lineno}
+                    self.assertTrue(is_plain(node.value, ahead), stem)
             names = defined(tree) + [name for _, name in imported(tree)]
             self.assertEqual(len(names), len(set(names)), stem)
 
@@ -143,6 +148,9 @@ class LanguageTest(unittest.TestCase):
                     for sign, right in zip(node.ops, node.comparators):
                         if isinstance(sign, (ast.Is, ast.IsNot)):
                             self.assertIsInstance(right, ast.Constant, where)
+                if isinstance(node, ast.Try):
+                    self.assertEqual([one.type.id for one in node.handlers], ["RingError"], where)
+                    self.assertFalse(node.orelse + node.finalbody, where)
                 if isinstance(node, ast.BinOp) and isinstance(node.op, ast.Pow):
                     self.assertIsInstance(node.right, ast.Constant, where)
                 if isinstance(node, ast.Name):

@@ -2,10 +2,14 @@
 
 import unittest
 
+from ringbars.answers import Either, Keeps, Never, NoRing, Surely
+from ringbars.asking import Known, Look
 from ringbars.bounds import Clash, Ranges
+from ringbars.families import Steps
 from ringbars.fields import InField, TooWide
 from ringbars.flips import Flips
 from ringbars.growing import Change
+from ringbars.lengths import Lengths, Trade
 from ringbars.lines import Most, Nets, NoSigns, Signs, TooGreat
 from ringbars.papers import Denial, Paper, fixed, is_called
 from ringbars.paths import Apart, Kept, Path
@@ -15,6 +19,7 @@ from ringbars.rounds import Exchanges, Held
 from ringbars.shapes import Flat, NeverFlat
 from ringbars.sizes import Packed
 from ringbars.slack import Ease, Passings, Slack
+from ringbars.takenapart import Lies, LoopTooLong
 from tests.common import HUGE, ODD, Case, stranger
 
 # Each class, its word, the names of its parts, and whether it is a denial.
@@ -32,7 +37,13 @@ CLASSES = ((Ranges, "ranges", ("ranges",), False), (Clash, "clash", ("rows",), T
            (Slack, "slack", ("down", "up", "low_lot", "high_lot"), False), (Ease, "ease", ("by", "lot"), False),
            (Passings, "passings", ("rows",), False), (InField, "infield", ("spare",), False),
            (TooWide, "toowide", ("triangle", "side"), True), (Packed, "packed", ("bodies",), False),
-           (Flips, "flips", ("rows",), False))
+           (Flips, "flips", ("rows",), False), (Steps, "steps", ("lots",), False),
+           (Lengths, "lengths", ("lengths",), False), (Trade, "trade", ("short", "long"), True),
+           (Keeps, "keeps", ("lengths",), False), (Surely, "surely", ("weights",), False),
+           (Either, "either", ("one", "other"), False), (NoRing, "noring", ("weights",), True),
+           (Never, "never", ("weights",), True), (Look, "look", ("lot", "looks"), False),
+           (Known, "known", ("answers",), True), (Lies, "lies", ("rows",), False),
+           (LoopTooLong, "looptoolong", ("bar", "way"), True))
 
 
 class PapersTest(Case):
@@ -97,6 +108,13 @@ class PapersTest(Case):
                 self.like(paper.parts, fixed(values))
                 for name, part in zip(names, paper.parts):
                     self.assertIs(getattr(paper, name), part)
+
+    def test_no_other_classes(self):
+        below, rows = set(), [Paper]
+        while rows:
+            rows = [kind for one in rows for kind in one.__subclasses__() if kind.__module__.startswith("ringbars.")]
+            below |= set(rows)
+        self.assertEqual(below, {kind for kind, *_ in CLASSES} | {Denial})
 
     def test_unlike_classes_are_never_equal(self):
         for kind, word, names, is_denial in CLASSES:
