@@ -78,6 +78,17 @@ def bent_papers(paper):
             yield kind(*paper.parts[:at], other, *paper.parts[at + 1:])
 
 
+def bent_items(items, others):
+    """Rows of items with one left out, doubled, exchanged, or put in, or cut off; none is without items."""
+    for at in range(len(items) + 1):
+        yield items[:at] + items[at + 1:] or [""]
+        yield items[:at] or [""]
+        yield items[:at] + items[at:at + 1] + items[at:]
+        for other in others:
+            yield items[:at] + other.split(" ") + items[at + 1:]
+            yield items[:at] + other.split(" ") + items[at:]
+
+
 def unlike_papers(paper, others=()):
     """Values of other classes that have the word and the parts of a paper."""
     kind = type(paper)

@@ -6,7 +6,7 @@ from ringbars.desk_lines import ASKS, DEEDS, read_line
 from ringbars.errors import BadText
 from ringbars.facts import Fact
 from ringbars.rings import Ring
-from tests.common import ODD, Case
+from tests.common import ODD, Case, bent_items
 
 RIGHT_DEEDS = ("put", "length", "begin", "backwards", "join", "cut", "drop", "bars", "tell", "strike")
 RIGHT_ASKS = ("names", "show", "sort", "closes", "clear", "same", "apart", "round", "pieces", "three", "cells", "holes",
@@ -108,14 +108,8 @@ class DeskLinesTest(Case):
     def test_each_item_changed(self):
         for word in FORMS:
             for line in lines_of(word)[:3] + lines_of(word)[-1:]:
-                items = line.split(" ")
-                for at in range(len(items) + 1):
-                    self.reads(items[:at] + items[at + 1:] or [""])
-                    self.reads(items[:at] or [""])
-                    self.reads(items[:at] + items[at:at + 1] + items[at:])
-                    for other in OTHERS:
-                        self.reads(items[:at] + other.split(" ") + items[at + 1:])
-                        self.reads(items[:at] + other.split(" ") + items[at:])
+                for items in bent_items(line.split(" "), OTHERS):
+                    self.reads(items)
 
     def test_signs_more(self):
         for line, item in (("", 0), (" names", 0), ("names ", 1), ("names\n", 0), ("Names", 0), ("show  a", 1),

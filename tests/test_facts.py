@@ -5,7 +5,7 @@ from itertools import permutations, product
 
 from ringbars.errors import BadFact, BadLot, BadNumber, BadRing, BadText, Misfit, NoBar, NoCorner, TooMany, Twice
 from ringbars.facts import Fact, Facts, arc_no_longer, never_points, no_shorter, points
-from tests.common import HUGE, NO_INTEGERS, ODD, Case
+from tests.common import HUGE, NO_INTEGERS, ODD, Case, bent_items
 from tests.plain import arc, subsets
 from tests.sayings import are_kept, is_kept, total
 from tests.sayings import points as plain_points
@@ -246,13 +246,8 @@ class ReadTest(Case):
         others = ("", "least", "above", "0", "-0", "3", "4", "-3", "-4", "+1", "01", "x", "/", "1 2", "1.0", "\u0661",
                   "9" * 61, "Least", "least ", "-")
         for text in ("least 1 -2 3", "above 0 0 0 -3", "above 3 3 3 3 3", "least -1 0 1 2 -2 3"):
-            items = text.split(" ")
-            for at in range(len(items) + 1):
-                self.reads(items[:at] + items[at + 1:])
-                self.reads(items[:at] or [""])
-                for other in others:
-                    self.reads(items[:at] + other.split(" ") + items[at + 1:])
-                    self.reads(items[:at] + other.split(" ") + items[at:])
+            for items in bent_items(text.split(" "), others):
+                self.reads(items)
 
     def test_ends(self):
         for text, item in (("", 0), ("least", 1), ("above 1 2", 3), ("least 1 2 3 ", 4), (" least 1 2 3", 0),

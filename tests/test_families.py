@@ -10,7 +10,7 @@ from ringbars.rings import Ring
 from tests.books import all_books, bent_lots, fewest_steps, greatest, steps_of, texts
 from tests.books import majority as plain_majority
 from tests.books import renumbered as plain_renumbered
-from tests.common import EVERY, HUGE, NO_INTEGERS, ODD, UNCLEAR, Case, as_lists
+from tests.common import EVERY, HUGE, NO_INTEGERS, ODD, UNCLEAR, Case, as_lists, bent_items
 from tests.plain import subsets
 
 NO_LOTS = tuple(value for value in ODD if value not in ([], (), [[0, 1], [2]], [[[]]])) + ([[0], 1], [[0], "1"], [[True]])
@@ -309,13 +309,8 @@ class ReadTest(Case):
                   "\u0661", "9" * 61, "1.0")
         rows = [text for rights in self.rights.values() for text in rights]
         for text in rows[:16] + rows[16::7]:
-            items = text.split(" ")
-            for at in range(len(items) + 1):
-                self.reads(items[:at] + items[at + 1:] or [""])
-                self.reads(items[:at] or [""])
-                for other in others:
-                    self.reads(items[:at] + other.split(" ") + items[at + 1:])
-                    self.reads(items[:at] + other.split(" ") + items[at:])
+            for items in bent_items(text.split(" "), others):
+                self.reads(items)
 
     def test_lots_in_another_order(self):
         for text, item in (("3 : 1 / 0 / 2", 6), ("3 : 0 / 1 / 1", 6), ("4 : 0 1 / 0 3 / 0 2", 9), ("3 : 0 1 2", 4),

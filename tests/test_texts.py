@@ -12,7 +12,7 @@ from ringbars.rings import Ring
 from ringbars.shapes import Shape, some_shape
 from ringbars.texts import integer_of
 from ringbars.webs import Web, web_of
-from tests.common import CLEAR, CLOSED, ODD, Case
+from tests.common import CLEAR, CLOSED, ODD, Case, bent_items
 from tests.test_desk_lines import is_number
 
 SHAPES = [some_shape(Ring(lengths), cutting) for lengths in CLOSED for cutting in cuttings(len(lengths))[::9]]
@@ -146,14 +146,8 @@ class TextsTest(Case):
     def test_bent_at_each_item(self):
         for kind, wrong, step in ((Ring, wrong_ring, 1), (Cutting, wrong_cutting, 3), (Shape, wrong_shape, 5)):
             for value in [value for value in VALUES if type(value) is kind][::step]:
-                items = str(value).split(" ")
-                for at in range(len(items) + 1):
-                    self.bend(kind, items[:at] + items[at + 1:], wrong)
-                    self.bend(kind, items[:at], wrong)
-                    self.bend(kind, items[:at] + items[at:at + 1] + items[at:], wrong)
-                    for other in OTHERS:
-                        self.bend(kind, items[:at] + [other] + items[at + 1:], wrong)
-                        self.bend(kind, items[:at] + [other] + items[at:], wrong)
+                for items in bent_items(str(value).split(" "), OTHERS):
+                    self.bend(kind, items, wrong)
 
     def test_integers(self):
         for number in (0, 1, -1, 10, -99, 10 ** 59, -(10 ** 59), 10 ** 60 - 1, 1 - 10 ** 60):

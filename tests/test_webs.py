@@ -7,7 +7,7 @@ from ringbars.errors import BadRing, BadText, BadWeb, NoBar, NoPin, TooMany, Twi
 from ringbars.knots import has_knot, joined_by
 from ringbars.rings import Ring
 from ringbars.webs import Web, joined_to, makes_knot, put_together, shortest_way, ways, web_of
-from tests.common import EVERY, HUGE, NO_INTEGERS, ODD, Case, as_lists
+from tests.common import EVERY, HUGE, NO_INTEGERS, ODD, Case, as_lists, bent_items
 from tests.pins import any_bars, grown, length_of, pins_of
 from tests.pins import has_knot as plain_knot
 from tests.pins import ways as plain_ways
@@ -266,13 +266,9 @@ class ReadTest(Case):
         others = ("", "a", "b", "zz", "/", "0", "7", "01", "-1", "+1", "1000000", "1000001", "A", "a1b2c3d4e5f6",
                   "a1b2c3d4e5f6g", "1a", "a_", "\u00e4", "9" * 61, "a b 1 /", "/ c d 2", "1.0")
         for number in list(range(30)) + [57, 93, 121]:
-            items = " / ".join(" ".join(map(str, bar)) for bar in grown(number)).split(" ")
-            for at in range(len(items) + 1):
-                self.reads(items[:at] + items[at + 1:] or [""])
-                self.reads(items[:at] or [""])
-                for other in others:
-                    self.reads(items[:at] + other.split(" ") + items[at + 1:])
-                    self.reads(items[:at] + other.split(" ") + items[at:])
+            text = " / ".join(" ".join(map(str, bar)) for bar in grown(number))
+            for items in bent_items(text.split(" "), others):
+                self.reads(items)
 
     def test_knots(self):
         text = "a b 1 / a c 1 / a d 1 / b c 1 / b d 1"
