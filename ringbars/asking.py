@@ -34,11 +34,10 @@ def fewest_facts(facts):
     want_facts(facts, "facts")
     if len(facts.facts) == 0:
         return ()
-    is_kept = can_keep(facts, ())
     lots = lots_of(len(facts.facts))
     at = 0
     # All facts together do: so the search ends.
-    while not tell_all(facts, lots[at], is_kept):
+    while not tell_all(facts, lots[at]):
         at += 1
     return lots[at]
 
@@ -62,14 +61,9 @@ def best_look(facts, lots):
     return Look(first, least)
 
 
-def tell_all(facts, lot, is_kept):
-    """Whether just the same rows of lengths keep the facts with these numbers alone.
-
-    Told is whether some row keeps all facts.
-    """
+def tell_all(facts, lot):
+    """Whether just the same rows of lengths keep the facts with these numbers alone."""
     some = Facts(facts.many, [facts.facts[number] for number in lot])
-    if not is_kept:
-        return not can_keep(some, ())
     others = [fact for number, fact in enumerate(facts.facts) if number not in lot]
     return all([not can_keep(some, (fact.contrary(),)) for fact in others])
 

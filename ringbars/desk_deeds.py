@@ -7,7 +7,7 @@ others stand for.
 from ringbars.checks import first_twice
 from ringbars.desk_lines import ASKS, first_word, read_line
 from ringbars.errors import BadText, Twice
-from ringbars.facts import LEAST_BARS, MOST_BARS, Facts
+from ringbars.facts import Facts
 from ringbars.params import want_number
 from ringbars.shelves import Shelf, want_shelf, want_there
 
@@ -73,7 +73,6 @@ def drop(shelf, told):
 
 def set_bars(shelf, told):
     """The shelf with a number of bars set, and no facts, and this number."""
-    want_number(told[1], LEAST_BARS, MOST_BARS, "many")
     return Shelf(shelf.rings, told[1]), str(told[1])
 
 

@@ -3,7 +3,7 @@
 from ringbars.arcs import arc_bars
 from ringbars.checks import are_positive, is_list, is_within
 from ringbars.errors import BadFact, BadLot, BadRing, BadText, Misfit, TooMany, Twice
-from ringbars.params import want_as_many, want_bar, want_lot, want_number, want_two_corners
+from ringbars.params import want_as_many, want_bar, want_lot, want_number
 from ringbars.texts import item_at, items_of, number_at
 
 LEAST_BARS = 3
@@ -106,10 +106,8 @@ def arc_no_longer(many, one, other):
     want_few_bars(many)
     want_pair(one, "one")
     want_pair(other, "other")
-    want_two_corners(one[0], one[1], many)
-    want_two_corners(other[0], other[1], many)
-    less, more = arc_bars(many, one[0], one[1]), arc_bars(many, other[0], other[1])
-    return fact_of(many, more, less)
+    less = arc_bars(many, one[0], one[1])
+    return fact_of(many, arc_bars(many, other[0], other[1]), less)
 
 
 def fact_of(many, more, less):

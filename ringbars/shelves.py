@@ -2,8 +2,7 @@
 
 from ringbars.checks import first_twice, is_list, is_name
 from ringbars.errors import BadDesk, BadFact, NoName, Nothing, Twice
-from ringbars.facts import LEAST_BARS, MOST_BARS, Facts
-from ringbars.params import want_number
+from ringbars.facts import Facts
 from ringbars.rings import Ring
 
 # The first words of the lines that speak of the bars that are set, or of the facts.
@@ -19,8 +18,6 @@ class Shelf:
         twice = first_twice([row[0] for row in rings])
         if twice is not None:
             raise Twice(twice)
-        if many is not None:
-            want_number(many, LEAST_BARS, MOST_BARS, "many")
         self.rings = tuple([tuple(row) for row in rings])
         self.many = many
         self.facts = facts_kept(many, facts)
@@ -46,7 +43,7 @@ def is_named(value):
 
 
 def facts_kept(many, facts):
-    """The facts about so many bars, a tuple; raise an error for what are none."""
+    """The facts about so many bars, a tuple; raise an error for what is no number of bars, or no facts."""
     if many is not None:
         return Facts(many, facts).facts
     if not is_list(facts) or len(facts) > 0:
@@ -61,14 +58,11 @@ def want_shelf(value, part):
 
 
 def want_there(shelf, told):
-    """Raise an error for a line that was read if it speaks of what is not there, or puts what is."""
+    """Raise an error for a line that was read if it speaks of what is not there."""
     word = told[0]
     if word in OF_FACTS and shelf.many is None:
         raise Nothing()
-    names = [value for value in told[1:] if isinstance(value, str)]
-    if word == "put":
-        if names[0] in shelf.names:
-            raise Twice(names[0])
-        return
+    # What is put has a new name.
+    names = [value for value in told[1:] if isinstance(value, str) and word != "put"]
     for name in names:
         shelf.ring(name)

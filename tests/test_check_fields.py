@@ -226,6 +226,13 @@ class PackedTest(Case):
                               ([left, [[(1, 1)], [(3, 1)]]], False)):
             self.assertIs(shows_packed(square, across, Packed(bodies)), holds, bodies)
 
+    def test_tips_beyond_the_field(self):
+        # From 2 to 4 both ends are on faces, and it is as long as the field, which is from 0 to 2.
+        ring = Ring([2, 2, 1, 1])
+        for ends, right in (((0, 2), True), ((2, 4), False), ((0, 4), False), ((2, 0), True)):
+            body = [[(end, 1)] for end in ends]
+            self.assertIs(shows_packed(ring, self.across, Packed([body])), right)
+
     def test_tips_in_any_order(self):
         ring, fan = Ring([3, 2, 2, 1, 2]), Cutting.fan(5, 0)
         bodies = list(packed(ring, fan).bodies)

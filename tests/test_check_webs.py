@@ -161,6 +161,20 @@ class CheckWebsTest(Case):
             self.assertIs(shows_lie(web, Lies(rows)), True)
             self.assertIs(shows_lie(web, Lies(rows[:2] + [(rows[2][0], ("a", "b"), None)])), False)
 
+    def test_three_others(self):
+        star = Web([("p", "a", 1), ("p", "b", 1), ("p", "c", 1)])
+        rest = [("a", (), None), ("b", (), None)]
+        for others in (("a", "b", "c"), ("a", "b"), ("b", "c"), ("a",), ()):
+            for span in (None, 0, 1, 2):
+                self.assertIs(shows_lie(star, Lies([("p", others, span)] + rest)), False)
+        self.assertIs(shows_lie(star, Lies([("a", ("p",), None), ("p", ("b", "c"), 2), ("b", ("c",), None)])), True)
+
+    def test_a_way_that_meets_a_pin_twice(self):
+        web = Web([("a", "b", 9), ("a", "c", 1), ("c", "d", 1), ("d", "c", 1), ("c", "b", 1), ("b", "e", 1)])
+        for way, right in (((1, 4), True), ((1, 2, 3, 4), False), ((1, 3, 2, 4), False), ((1, 1, 1, 4), False),
+                           ((1, 4, 5, 5), False), ((4, 1), False), ((1,), False), ((1, 5, 4), False), ((), False)):
+            self.assertIs(shows_lie(web, LoopTooLong(0, way)), right)
+
     def test_doubled_bars(self):
         same, unlike = Web([("a", "b", 2), ("b", "a", 2)]), Web([("a", "b", 2), ("b", "a", 3)])
         self.assertIs(shows_lie(same, Lies([("a", ("b",), None)])), True)

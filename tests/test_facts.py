@@ -177,6 +177,7 @@ class FactsTest(Case):
     def test_equality(self):
         self.assertEqual(Facts(3, [FEW[0], FEW[0]]), Facts(3, (FEW[0], FEW[0])))
         self.assertEqual(Facts(4), Facts(4, []))
+        self.assertIs(Facts(3) == Facts(4), False)
         for other in ODD + (Facts(4), Facts(3, FEW[:1]), Facts(3, FEW[1::-1]), FEW[0], tuple(FEW[:2])):
             self.assertIs(Facts(3, FEW[:2]) == other, False)
             self.assertIs(other == Facts(3, FEW[:2]), False)
